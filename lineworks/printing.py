@@ -18,8 +18,8 @@ OPERATORS = {
     "mod": (6, 6, 7),
 }
 NOT = 3
-NEGATION = 7
-ATOM = 8
+# No operand has to bind more closely than a negation does.
+CLOSEST = 7
 FUNCTIONS = ("missing", "length", "starts", "coalesce", "if")
 
 
@@ -32,7 +32,7 @@ def print_expression(expression):
     if word == "not":
         return f"not {inner_text(expression[1], NOT)}"
     if word == "negate":
-        return f"-{inner_text(expression[1], NEGATION)}"
+        return f"-{inner_text(expression[1], CLOSEST)}"
     if word in FUNCTIONS:
         arguments = ", ".join([print_expression(part) for part in expression[1:]])
         return f"{word}({arguments})"
@@ -62,11 +62,7 @@ def closeness(expression):
     word = expression[0]
     if word in OPERATORS:
         return OPERATORS[word][0]
-    if word == "not":
-        return NOT
-    if word == "negate":
-        return NEGATION
-    return ATOM
+    return NOT if word == "not" else CLOSEST
 
 
 def leaf_text(expression):

@@ -6,10 +6,15 @@ import unittest
 
 import trees
 
-from lineworks.errors import SourceError
+from lineworks.errors import Problem, SourceError
+from lineworks.kinds import compile_expression
+from lineworks.names import compile_query
 from lineworks.parsing import parse_item, parse_query, parse_source
+from lineworks.pipelines import Pipeline, append_step, check_source, compile_source, define_step, drop_step
 from lineworks.printing import print_expression, print_query, print_source
 from lineworks.tokens import tokens
+from lineworks.totals import total
+from lineworks.values import evaluate, row_key
 
 
 def lists_in(value):
@@ -63,6 +68,72 @@ class Stage1(unittest.TestCase):
                 with self.assertRaises(SourceError) as caught:
                     read("from t where 'a")
                 self.assertEqual(caught.exception.column, 14)
+
+
+class Stage2(unittest.TestCase):
+    def fields(self, pipeline):
+        return copy.deepcopy((pipeline.tables, pipeline.steps, pipeline.plans))
+
+    def test_compiling_an_expression(self):
+        columns = [("t", "a", "int"), (None, "b", "text")]
+        tree = parse_query("from t where coalesce(a, 1) < length(b)")[0][1][1][0][1]
+        kept = copy.deepcopy((columns, tree))
+        first = compile_expression(columns, tree)
+        self.assertEqual((columns, tree), kept)
+        self.assertEqual(compile_expression(columns, tree), first)
+
+    def test_compiling_a_query(self):
+        seen = [("t", ("table", 0), [("a", "int"), ("b", "text"), ("c", "truth")]), ("u", ("table", 1), [("a", "int")])]
+        for text in (QUERY, "from t", "from t left join (from u union from u) as v on t.a = v.a select b"):
+            query = parse_query(text)
+            kept = copy.deepcopy((seen, query))
+            first = compile_query(seen, query)
+            expected = copy.deepcopy(first)
+            empty(first)
+            self.assertEqual((seen, query), kept)
+            self.assertEqual(compile_query(seen, query), expected)
+
+    def test_an_error_of_compiling_changes_nothing(self):
+        seen = [("t", ("table", 0), [("a", "int")])]
+        query = parse_query("from t where a = 1 select a, x")
+        kept = copy.deepcopy((seen, query))
+        for _ in range(2):
+            with self.assertRaises(Problem):
+                compile_query(seen, query)
+            self.assertEqual((seen, query), kept)
+
+    def test_a_pipeline_keeps_nothing_of_its_arguments(self):
+        given = [("t", [("a", "int")])], [("s", [("a", "int")])], [[("table", 0), ("map", [("column", 0)], 0)]]
+        expected = copy.deepcopy(given)
+        pipeline = Pipeline(*given)
+        self.assertEqual(given, expected)
+        empty(given)
+        self.assertEqual(self.fields(pipeline), expected)
+
+    def test_pipelines_have_nothing_in_common(self):
+        first = compile_source(SOURCE)
+        kept = self.fields(first)
+        for made in (
+            define_step(first, 1, "from s join u on s.a = u.a select b, s.a"),
+            append_step(first, "step q = from r;"), drop_step(first), compile_source(SOURCE),
+        ):
+            empty((made.tables, made.steps, made.plans))
+            self.assertEqual(self.fields(first), kept)
+
+    def test_lists_of_faults_are_new(self):
+        check_source("step s = from t;").clear()
+        self.assertEqual(len(check_source("step s = from t;")), 1)
+
+    def test_values_and_totals(self):
+        rows = [(3, "b"), (None, "a"), (1, "c")]
+        kept = copy.deepcopy(rows)
+        for form in (("count",), ("distinct", ("column", 1)), ("sum", ("column", 0)), ("least", ("column", 0)),
+                     ("greatest", ("column", 1))):
+            self.assertEqual(total(form, rows), total(form, rows))
+            self.assertEqual(rows, kept)
+        row_key(rows[0])
+        evaluate(("add", ("column", 0), ("constant", 1)), rows[0])
+        self.assertEqual(rows, kept)
 
 
 if __name__ == "__main__":
