@@ -103,6 +103,7 @@ class Modules(unittest.TestCase):
 
     def test_imports_name_the_file_that_defines(self):
         defined = {name: [node.name for node in tree.body if isinstance(node, (ast.FunctionDef, ast.ClassDef))]
+                   + [node.targets[0].id for node in tree.body if isinstance(node, ast.Assign)]
                    for name, tree in trees().items()}
         for name, tree in trees().items():
             for node in imports(tree):
@@ -142,6 +143,9 @@ class Code(unittest.TestCase):
             self.assertEqual([node.lineno for node in nodes(tree, ast.Constant) if isinstance(node.value, float)], [])
             for node in nodes(tree, ast.FunctionDef, ast.ClassDef):
                 self.assertEqual(node.decorator_list, [], (name, node.name))
+            for node in nodes(tree, ast.Call):
+                stars = [part.value for part in node.args if isinstance(part, ast.Starred)]
+                self.assertEqual([part.lineno for part in stars if not isinstance(part, ast.Name)], [], name)
             for node in nodes(tree, ast.Try):
                 self.assertEqual([caught.type.id for caught in node.handlers if caught.type.id not in
                                   ("Problem", "SourceError")], [], name)
@@ -183,10 +187,11 @@ class Code(unittest.TestCase):
                 for operator, right in zip(node.ops, node.comparators):
                     if isinstance(operator, (ast.Is, ast.IsNot)):
                         self.assertIsInstance(right, ast.Constant, (name, node.lineno))
-            measured = [node.args[0] for node in nodes(tree, ast.Call)
-                        if isinstance(node.func, ast.Name) and node.func.id == "len"]
+            called = [node for node in nodes(tree, ast.Call) if isinstance(node.func, ast.Name)]
+            used = [node.args[0] for node in called if node.func.id in ("len", "sorted") and not node.keywords]
+            made = nodes(tree, ast.SetComp) + [node for node in called if node.func.id == "set"]
             self.assertEqual([node.lineno for node in nodes(tree, ast.Set)], [], name)
-            self.assertEqual([node.lineno for node in nodes(tree, ast.SetComp) if node not in measured], [], name)
+            self.assertEqual([node.lineno for node in made if node not in used], [], name)
 
     def test_strings_within_strings(self):
         for name, tree in trees().items():

@@ -6,12 +6,17 @@ import unittest
 
 import trees
 
-from lineworks.errors import Problem, SourceError
+from lineworks.cases import cases
+from lineworks.cheapest import cheapest
+from lineworks.diagrams import Diagrams
+from lineworks.errors import Problem, SourceError, TooManyCases, TooManyReasons
 from lineworks.kinds import compile_expression
 from lineworks.names import compile_query
 from lineworks.parsing import parse_item, parse_query, parse_source
 from lineworks.pipelines import Pipeline, append_step, check_source, compile_source, define_step, drop_step
 from lineworks.printing import print_expression, print_query, print_source
+from lineworks.queries import query_rows, step_rows
+from lineworks.reasons import reasons
 from lineworks.tokens import tokens
 from lineworks.totals import total
 from lineworks.values import evaluate, row_key
@@ -134,6 +139,55 @@ class Stage2(unittest.TestCase):
         row_key(rows[0])
         evaluate(("add", ("column", 0), ("constant", 1)), rows[0])
         self.assertEqual(rows, kept)
+
+
+class Stage3(unittest.TestCase):
+    def unchanged(self, read, *arguments):
+        """Reads twice, with the lists of the first result emptied and the arguments looked at after each time."""
+        kept = copy.deepcopy(arguments)
+        first = read(*arguments)
+        expected = copy.deepcopy(first)
+        self.assertEqual(arguments, kept)
+        empty(first)
+        self.assertEqual(arguments, kept)
+        self.assertEqual(read(*arguments), expected)
+
+    def test_rows(self):
+        pipeline = compile_source("table t (a int, b text); step s = from t; step r = from s where a > 1 group b;")
+        rows = [(3, "b"), (None, "a"), (1, "c"), (3, "b")]
+        self.unchanged(query_rows, pipeline.plans[0], [rows], [])
+        self.unchanged(query_rows, pipeline.plans[1], [rows], [rows])
+        entries = [(number, 0, row) for number, row in enumerate(rows)]
+        self.unchanged(step_rows, pipeline.plans, entries, [3, 0, 2, 2])
+
+    def test_conditions(self):
+        store = Diagrams()
+        a, b, c = [store.there(entry) for entry in (9, 4, 6)]
+        made = store.disjunction(store.conjunction(a, b), store.conjunction(store.negation(b), c))
+        present, entries, conditions = [9, 9, 4], [4, 6, 9, 12], [made, a, made]
+        for read, arguments in (
+            (store.table, [made]), (store.depends, [made]), (store.first_set, [made]), (store.size, [conditions]),
+            (store.ways, [made, entries]), (store.holds, [made, present]),
+        ):
+            self.unchanged(read, *arguments)
+
+    def test_what_is_read_off_conditions(self):
+        store = Diagrams()
+        a, b, c = [store.there(entry) for entry in (9, 4, 6)]
+        made = store.disjunction(store.conjunction(a, b), store.conjunction(store.negation(b), c))
+        self.unchanged(lambda: cases(store, made))
+        self.unchanged(lambda present: reasons(store, made, present), [9, 9, 4, 6])
+        self.unchanged(lambda present, costs: cheapest(store, made, present, costs), [6, 4], {4: 3, 9: 4})
+
+    def test_an_error_changes_no_condition(self):
+        store = Diagrams()
+        a, b, c = [store.there(entry) for entry in (9, 4, 6)]
+        made = store.disjunction(store.disjunction(a, b), c)
+        table = store.table(made)
+        for _ in range(2):
+            self.assertRaises(TooManyCases, lambda: cases(store, made, most_cases=2))
+            self.assertRaises(TooManyReasons, lambda: reasons(store, made, [4, 6, 9], most=2))
+            self.assertEqual((store.table(made), store.disjunction(store.disjunction(c, b), a)), (table, made))
 
 
 if __name__ == "__main__":
