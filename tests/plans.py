@@ -3,7 +3,8 @@
 from lineworks.totals import total
 from lineworks.values import evaluate, is_true, row_key
 
-VALUES = (None, 0, 1, 2, "", "a")
+# Some more often than others, so that rows often match.
+VALUES = (1, 1, 1, 2, 2, 2, None, 0, "", "a")
 FORMS = ("count", "distinct", "sum", "least", "greatest")
 
 
@@ -18,30 +19,31 @@ def row(random, width):
 
 def term(random, width):
     """Returns an expression for a value."""
-    if width and random.random() < 0.75:
-        return ("column", random.randrange(width))
-    if width and random.random() < 0.5:
-        return ("add", ("column", random.randrange(width)), ("constant", random.choice([1, 2])))
-    return ("constant", random.choice(VALUES))
+    if random.random() < 0.1:
+        return ("constant", random.choice(VALUES))
+    column = ("column", random.randrange(width))
+    if random.random() < 0.1:
+        return ("add", column, ("constant", random.choice([1, 2])))
+    return column
 
 
 def condition(random, width):
     """Returns an expression that is a condition, and unknown for some rows."""
     kind = random.randrange(8)
-    if kind < 3:
-        return ("equal", term(random, width), term(random, width))
-    if kind < 5:
-        return ("less", term(random, width), term(random, width))
-    if kind == 5:
-        return ("missing", term(random, width))
+    if kind < 2:
+        return ("equal", term(random, width), ("constant", random.choice(VALUES)))
+    if kind < 4:
+        return ("not", ("equal", term(random, width), ("constant", random.choice(VALUES))))
+    if kind < 6:
+        return ("less", term(random, width), random.choice([term(random, width), ("constant", 2)]))
     if kind == 6:
-        return ("not", condition(random, width))
+        return random.choice([("missing", term(random, width)), ("constant", 1)])
     return (random.choice(["and", "or"]), condition(random, width), condition(random, width))
 
 
 def match(random, width, other):
     """Returns a condition of a join, which often compares a column of each side."""
-    if width and other and random.random() < 0.6:
+    if random.random() < 0.8:
         first, second = ("column", random.randrange(width)), ("column", width + random.randrange(other))
         return random.choice([("equal", first, second), ("less", first, second), ("not", ("equal", first, second))])
     return condition(random, width + other)

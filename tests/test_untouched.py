@@ -6,17 +6,21 @@ import unittest
 
 import trees
 
+from lineworks.carrying import candidates, condition_of, entry_candidates, pipeline_candidates
 from lineworks.cases import cases
 from lineworks.cheapest import cheapest
 from lineworks.diagrams import Diagrams
-from lineworks.errors import Problem, SourceError, TooManyCases, TooManyReasons
+from lineworks.errors import Problem, SourceError, TooManyCases, TooManyQuestions, TooManyReasons, TooManyRows
 from lineworks.kinds import compile_expression
+from lineworks.limits import Way
 from lineworks.names import compile_query
 from lineworks.parsing import parse_item, parse_query, parse_source
 from lineworks.pipelines import Pipeline, append_step, check_source, compile_source, define_step, drop_step
+from lineworks.possible import possible_rows
 from lineworks.printing import print_expression, print_query, print_source
 from lineworks.queries import query_rows, step_rows
 from lineworks.reasons import reasons
+from lineworks.states import total_values
 from lineworks.tokens import tokens
 from lineworks.totals import total
 from lineworks.values import evaluate, row_key
@@ -141,7 +145,7 @@ class Stage2(unittest.TestCase):
         self.assertEqual(rows, kept)
 
 
-class Stage3(unittest.TestCase):
+class UnchangedCase(unittest.TestCase):
     def unchanged(self, read, *arguments):
         """Reads twice, with the lists of the first result emptied and the arguments looked at after each time."""
         kept = copy.deepcopy(arguments)
@@ -152,6 +156,8 @@ class Stage3(unittest.TestCase):
         self.assertEqual(arguments, kept)
         self.assertEqual(read(*arguments), expected)
 
+
+class Stage3(UnchangedCase):
     def test_rows(self):
         pipeline = compile_source("table t (a int, b text); step s = from t; step r = from s where a > 1 group b;")
         rows = [(3, "b"), (None, "a"), (1, "c"), (3, "b")]
@@ -188,6 +194,46 @@ class Stage3(unittest.TestCase):
             self.assertRaises(TooManyCases, lambda: cases(store, made, most_cases=2))
             self.assertRaises(TooManyReasons, lambda: reasons(store, made, [4, 6, 9], most=2))
             self.assertEqual((store.table(made), store.disjunction(store.disjunction(c, b), a)), (table, made))
+
+
+class Stage4(UnchangedCase):
+    PLANS = compile_source("""
+        table t (a int, b text); table u (a int);
+        step s = from t left join u on t.a = u.a select t.a, b;
+        step r = from s semi join t on s.a = t.a group b with sum(a) as n, count as m;
+        step q = from t select a except from u;
+    """).plans
+    ENTRIES = [(4, 0, (1, "x")), (2, 1, (1,)), (9, 0, (2, "x")), (3, 1, (2,)), (1, 0, (None, "y")), (7, 0, (1, "x"))]
+
+    def test_candidates(self):
+        store = Diagrams()
+        tables = [entry_candidates(store, self.ENTRIES, table) for table in (0, 1)]
+        steps = pipeline_candidates(store, self.PLANS, self.ENTRIES, 2)
+        self.unchanged(lambda *arguments: entry_candidates(store, *arguments), self.ENTRIES, 0)
+        self.unchanged(lambda *arguments: pipeline_candidates(store, *arguments), self.PLANS, self.ENTRIES, 2)
+        for plan in self.PLANS + [[("table", 1)], [("step", 0)]]:
+            self.unchanged(lambda *arguments: candidates(store, *arguments), plan, tables, steps)
+        self.unchanged(condition_of, tables[0], (1, "x"))
+        for word in ("distinct", "sum", "least", "greatest"):
+            self.unchanged(lambda *arguments: total_values(Way(store, 500, 500), *arguments), (word, ("column", 0)),
+                           tables[0])
+
+    def test_an_error_changes_nothing(self):
+        store = Diagrams()
+        expected = pipeline_candidates(store, self.PLANS, self.ENTRIES, 2)
+        kept = copy.deepcopy((self.PLANS, self.ENTRIES))
+        for _ in range(2):
+            self.assertRaises(TooManyRows, lambda: pipeline_candidates(store, self.PLANS, self.ENTRIES, 2, most_rows=1))
+            self.assertRaises(TooManyQuestions,
+                              lambda: pipeline_candidates(store, self.PLANS, self.ENTRIES, 2, most_nodes=1))
+            self.assertEqual((self.PLANS, self.ENTRIES), kept)
+            self.assertEqual(pipeline_candidates(store, self.PLANS, self.ENTRIES, 2), expected)
+
+    def test_possible_rows(self):
+        tables = [[(2, "b"), (1, "a"), (2, "b")], [(2,), (1,), (None,)]]
+        steps = [[(4, "a"), (3, "b"), (4, "a")], None, []]
+        for plan in self.PLANS + [[("table", 1)], [("step", 0)], [("step", 1)]]:
+            self.unchanged(possible_rows, plan, tables, steps)
 
 
 if __name__ == "__main__":
