@@ -14,14 +14,19 @@ def query_rows(plan, tables, steps):
 
 def step_rows(plans, entries, present):
     """Returns the rows of each step for the set of input rows with the numbers in a list."""
-    tables = [[] for _ in range(table_count(plans, entries))]
-    for number, table, row in entries:
-        if number in present:
-            tables[table].append(row)
+    tables = rows_of_tables(plans, [entry for entry in entries if entry[0] in present])
     steps = []
     for plan in plans:
         steps.append(query_rows(plan, tables, steps))
     return steps
+
+
+def rows_of_tables(plans, entries):
+    """Returns for each table the rows of its input rows, as they come."""
+    tables = [[] for _ in range(table_count(plans, entries))]
+    for _, table, row in entries:
+        tables[table].append(row)
+    return tables
 
 
 def table_count(plans, entries):

@@ -166,3 +166,27 @@ def read_group(operation, rows):
     made = {x: tuple(evaluate(e, x) for e in keys) for x in rows}
     groups = set(made.values()) if keys else {()}
     return {key + tuple(total(each, [x for x in rows if made[x] == key]) for each in forms) for key in groups}
+
+
+def read_possible(plan, tables, steps, most=500):
+    """Returns the possible rows of each operation as sets, None where they are unknown, as point 41 says it."""
+    found = []
+    for operation in plan:
+        word, *parts = operation
+        places = {"filter": 1, "map": 1, "join": 2, "union": 2, "minus": 2, "anti": 2, "group": 1}.get(word, 0)
+        named = [found[at] for at in parts[len(parts) - places:]] if places else []
+        if word in ("table", "step"):
+            rows = (tables if word == "table" else steps)[parts[0]]
+            made = None if rows is None else set(rows)
+        elif word in ("minus", "anti"):
+            made = named[0]
+        elif any(rows is None for rows in named):
+            made = None
+        elif word == "group":
+            made = None if parts[1] else {tuple(evaluate(e, row) for e in parts[0]) for row in named[0]}
+        else:
+            made = read_operation(operation, tables, steps, found)
+            if word in ("join", "union") and len(made) > most:
+                made = None
+        found.append(made)
+    return found

@@ -24,6 +24,11 @@ FUNCTIONS = {
                  "condition_of(candidates, row)"],
     "states": ["total_values(way, form, rows)"],
     "possible": ["possible_rows(plan, tables, steps, *, most=500)"],
+    "deciding": ["deciding_rows(plan, tables, steps, row)"],
+    "origins": ["origins(plans, entries, step, row)", "uses(plan)", "falling(plans)"],
+    "changes": ["changes(store, condition, present, allowed, *, most=200)"],
+    "blame": ["blame(store, condition, present, allowed)"],
+    "shares": ["shares(store, condition, present)"],
 }
 CLASSES = {
     ("pipelines", "Pipeline(tables, steps, plans)"): ["table_index(name)", "step_index(name)"],

@@ -28,6 +28,8 @@ BARRED_WORDS = set(
     "type typing typing_extensions enum Enum IntEnum StrEnum Flag IntFlag Generic Protocol ABC ABCMeta namedtuple"
     " NamedTuple TypedDict TYPE_CHECKING abstractmethod dataclass overload contextmanager".split()
 )
+# What may be imported from elsewhere.
+LIBRARY = {"math": ("gcd", "factorial")}
 # Nothing in the package needs these.
 BARRED_NODES = (
     ast.Global, ast.Nonlocal, ast.AsyncFunctionDef, ast.Await, ast.Yield, ast.YieldFrom, ast.GeneratorExp, ast.Div,
@@ -45,7 +47,14 @@ def trees():
 
 
 def imports(tree):
-    return [node for node in tree.body if isinstance(node, ast.ImportFrom)]
+    """Returns the imports from files of the package."""
+    return [node for node in tree.body if isinstance(node, ast.ImportFrom) and node.module not in LIBRARY]
+
+
+def library_names(tree):
+    """Returns the names that are imported from elsewhere."""
+    found = [node for node in tree.body if isinstance(node, ast.ImportFrom) and node.module in LIBRARY]
+    return [(node.module, alias.name, alias.asname) for node in found for alias in node.names]
 
 
 def nodes(tree, *kinds):
@@ -121,9 +130,20 @@ class Modules(unittest.TestCase):
             for name in free:
                 del left[name]
 
+    def test_the_library_is_only_called(self):
+        for name, tree in trees().items():
+            words = [word for _, word, _ in library_names(tree)]
+            for module, word, asname in library_names(tree):
+                self.assertIn(word, LIBRARY[module], name)
+                self.assertIsNone(asname, name)
+            called = [node.func for node in nodes(tree, ast.Call) if not node.keywords]
+            used = [node for node in nodes(tree, ast.Name) if node.id in words]
+            self.assertEqual([node.lineno for node in used if node not in called], [], name)
+
     def test_one_binding_for_each_name(self):
         for name, tree in trees().items():
             bound = [alias.name for node in imports(tree) for alias in node.names]
+            bound += [word for _, word, _ in library_names(tree)]
             imported = bound + [node.name for node in tree.body if isinstance(node, ast.ClassDef)]
             for node in tree.body:
                 if isinstance(node, (ast.FunctionDef, ast.ClassDef)):

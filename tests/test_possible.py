@@ -11,36 +11,11 @@ from lineworks.names import compile_query
 from lineworks.parsing import parse_query
 from lineworks.possible import possible_rows
 from lineworks.queries import query_rows
-from lineworks.values import evaluate
 
 A, B = ("column", 0), ("column", 1)
 ALWAYS = ("constant", 1)
 T, U, S = ("table", 0), ("table", 1), ("step", 0)
 COUNT = [("count",)]
-
-
-def read(plan, tables, steps, most):
-    """Returns the possible rows of each operation as sets: a straight reading of the point."""
-    found = []
-    for operation in plan:
-        word, *parts = operation
-        places = {"filter": 1, "map": 1, "join": 2, "union": 2, "minus": 2, "anti": 2, "group": 1}.get(word, 0)
-        named = [found[at] for at in parts[len(parts) - places:]] if places else []
-        if word in ("table", "step"):
-            rows = (tables if word == "table" else steps)[parts[0]]
-            made = None if rows is None else set(rows)
-        elif word in ("minus", "anti"):
-            made = named[0]
-        elif any(rows is None for rows in named):
-            made = None
-        elif word == "group":
-            made = None if parts[1] else {tuple(evaluate(e, row) for e in parts[0]) for row in named[0]}
-        else:
-            made = plans.read_operation(operation, tables, steps, found)
-            if word in ("join", "union") and len(made) > most:
-                made = None
-        found.append(made)
-    return found
 
 
 class Possible(unittest.TestCase):
@@ -135,7 +110,8 @@ class Possible(unittest.TestCase):
                 steps[source.randrange(2)] = None
             most = source.choice([0, 1, 2, 4, 8, 500])
             kept = copy.deepcopy((plan, tables, steps))
-            expected = [None if rows is None else plans.ordered(rows) for rows in read(plan, tables, steps, most)]
+            read = plans.read_possible(plan, tables, steps, most)
+            expected = [None if rows is None else plans.ordered(rows) for rows in read]
             self.assertEqual(possible_rows(plan, tables, steps, most=most), expected)
             self.assertEqual((plan, tables, steps), kept)
             unknown += None in expected

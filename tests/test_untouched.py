@@ -6,20 +6,27 @@ import unittest
 
 import trees
 
+from lineworks.blame import blame
 from lineworks.carrying import candidates, condition_of, entry_candidates, pipeline_candidates
 from lineworks.cases import cases
+from lineworks.changes import changes
 from lineworks.cheapest import cheapest
+from lineworks.deciding import deciding_rows
 from lineworks.diagrams import Diagrams
-from lineworks.errors import Problem, SourceError, TooManyCases, TooManyQuestions, TooManyReasons, TooManyRows
+from lineworks.errors import (
+    Problem, SourceError, TooManyCases, TooManyChanges, TooManyQuestions, TooManyReasons, TooManyRows,
+)
 from lineworks.kinds import compile_expression
 from lineworks.limits import Way
 from lineworks.names import compile_query
+from lineworks.origins import falling, origins, uses
 from lineworks.parsing import parse_item, parse_query, parse_source
 from lineworks.pipelines import Pipeline, append_step, check_source, compile_source, define_step, drop_step
 from lineworks.possible import possible_rows
 from lineworks.printing import print_expression, print_query, print_source
 from lineworks.queries import query_rows, step_rows
 from lineworks.reasons import reasons
+from lineworks.shares import shares
 from lineworks.states import total_values
 from lineworks.tokens import tokens
 from lineworks.totals import total
@@ -234,6 +241,43 @@ class Stage4(UnchangedCase):
         steps = [[(4, "a"), (3, "b"), (4, "a")], None, []]
         for plan in self.PLANS + [[("table", 1)], [("step", 0)], [("step", 1)]]:
             self.unchanged(possible_rows, plan, tables, steps)
+
+
+class Stage5(UnchangedCase):
+    PLANS = compile_source("""
+        table t (a int, b text); table u (a int);
+        step s = from t group a with count as n; step r = from t anti join s on t.a < s.n;
+        step q = from r join u on r.a = u.a select b union from t group b;
+    """).plans
+
+    def test_traces(self):
+        tables = [[(2, "b"), (1, "a"), (2, "b")], [(2,), (1,), (2,)]]
+        steps = [[(2, 1), (1, 1)], [(4, "a"), (1, "a"), (4, "a")]]
+        for plan, row in zip(self.PLANS, ((2, 1), (1, "a"), ("a",))):
+            self.unchanged(deciding_rows, plan, tables, steps, row)
+            self.unchanged(uses, plan)
+        entries = [(4, 0, (1, "x")), (2, 1, (1,)), (9, 0, (2, "x")), (3, 1, (2,)), (1, 0, (1, "x"))]
+        for step, row in enumerate(((1, 1), (1, "x"), ("x",))):
+            self.unchanged(origins, self.PLANS, entries, step, row)
+        self.unchanged(falling, self.PLANS)
+
+    def test_what_is_read_off_conditions(self):
+        store = Diagrams()
+        a, b, c = [store.there(entry) for entry in (9, 4, 6)]
+        made = store.disjunction(store.conjunction(a, b), store.conjunction(store.negation(b), c))
+        for present in ([9, 9, 4], [9], []):
+            for read in (changes, blame):
+                self.unchanged(lambda *arguments: read(store, made, *arguments), present, [9, 6, 4, 6, 11])
+            self.unchanged(lambda *arguments: shares(store, made, *arguments), present)
+
+    def test_an_error_changes_no_condition(self):
+        store = Diagrams()
+        a, b, c = [store.there(entry) for entry in (9, 4, 6)]
+        made = store.disjunction(store.disjunction(a, b), c)
+        table = store.table(made)
+        for _ in range(2):
+            self.assertRaises(TooManyChanges, lambda: changes(store, made, [], [4, 6, 9], most=2))
+            self.assertEqual(store.table(made), table)
 
 
 if __name__ == "__main__":
