@@ -1,8 +1,8 @@
 """Deciding rows: those rows of tables and steps that decide whether a row comes out."""
 
 from lineworks.possible import possible_rows
-from lineworks.queries import in_order
-from lineworks.traces import is_leaf, reached_rows, traced
+from lineworks.queries import in_order, is_leaf
+from lineworks.traces import reached_rows, traced
 
 
 def deciding_rows(plan, tables, steps, row):

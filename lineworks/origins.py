@@ -1,8 +1,8 @@
 """Origins: the input rows that a row of a step comes from, and what plans use."""
 
 from lineworks.possible import has_totals, possible_rows
-from lineworks.queries import rows_of_tables
-from lineworks.traces import is_leaf, reached_rows, traced
+from lineworks.queries import is_leaf, rows_of_tables
+from lineworks.traces import reached_rows, traced
 
 
 def origins(plans, entries, step, row):

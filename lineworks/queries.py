@@ -61,10 +61,15 @@ def matches_any(condition, first, rows):
     return False
 
 
+def is_leaf(operation):
+    """Returns whether an operation is a table or a step."""
+    return operation[0] in ("table", "step")
+
+
 def operands(operation):
     """Returns the indexes of the operations that an operation names."""
     word = operation[0]
-    if word in ("table", "step"):
+    if is_leaf(operation):
         return []
     if word in ("union", "minus"):
         return list(operation[1:])

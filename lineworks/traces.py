@@ -1,6 +1,6 @@
 """What is followed in a plan to find out what decides about its rows."""
 
-from lineworks.queries import matches, operands, values_of
+from lineworks.queries import is_leaf, matches, operands, values_of
 from lineworks.values import evaluate, is_true
 
 
@@ -44,11 +44,6 @@ def reached_rows(trace, at):
     if trace.whole[at]:
         return list(known)
     return [row for row in known if row in trace.followed[at]]
-
-
-def is_leaf(operation):
-    """Returns whether an operation is a table or a step."""
-    return operation[0] in ("table", "step")
 
 
 def follow_operation(trace, at):

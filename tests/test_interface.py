@@ -1,4 +1,4 @@
-"""The names and arguments of the interface, as far as it has landed."""
+"""The names and arguments of the interface."""
 
 import importlib
 import inspect
@@ -29,6 +29,14 @@ FUNCTIONS = {
     "changes": ["changes(store, condition, present, allowed, *, most=200)"],
     "blame": ["blame(store, condition, present, allowed)"],
     "shares": ["shares(store, condition, present)"],
+    "chances": ["chance(store, condition, cases, *, of=1000)",
+                "chances_given(store, condition, cases, entries, *, of=1000)"],
+    "outcomes": ["outcomes(store, candidates, prefix, present, costs)",
+                 "none_of(store, candidates, prefix, present, costs, *, most_nodes=500)"],
+    "kept": ["open_version(store, plans, widths, *, most_rows=500, most_nodes=500)",
+             "edit_version(store, version, edit, widths, *, most_rows=500, most_nodes=500)"],
+    "versions": ["compare(old, new)", "are_equal(old, new)", "since(versions, step, row)",
+                 "separate(store, old, new, step, row)"],
 }
 CLASSES = {
     ("pipelines", "Pipeline(tables, steps, plans)"): ["table_index(name)", "step_index(name)"],
@@ -39,6 +47,18 @@ CLASSES = {
         "hurts(condition, entry)", "ways(condition, entries)", "first_set(condition)", "table(condition)",
     ],
     ("limits", "Way(store, most_rows, most_nodes)"): [],
+    ("kept", "Version(plans, entries, next_entry, marks, ran)"): [],
+    ("line", "Line(source, *, most_rows=200, most_nodes=200)"): [
+        "add(table, row)", "remove(entry)", "change(entry, row)", "put(entry, there)", "define(step, text)",
+        "add_step(text)", "drop()", "back()", "tables()", "steps()", "entries()", "rows(step)", "what_if(step, turned)",
+        "candidates(step)", "sure(step)", "questions(step)", "condition(step, row)", "holds(step, row, there)",
+        "depends(step, row)", "implies(step, row, other_step, other_row)", "ways(step, row)", "cases(step, row)",
+        "why(step, row)", "changes(step, row, kept)", "cheapest(step, row, wanted, costs)", "blame(step, row, kept)",
+        "shares(step, row)", "chance(step, row, chances)", "given(step, row, chances)", "outcomes(step, values, costs)",
+        "none_of(step, values, costs)", "ran()", "version()", "compare(version)", "equal(version)",
+        "separate(version, step, row)", "since(step, row)", "uses(step)", "falling(step)", "down(step, row)",
+        "origins(step, row)",
+    ],
 }
 
 
@@ -64,7 +84,7 @@ class Interface(unittest.TestCase):
             for each in methods:
                 method = each.split("(")[0]
                 # In the class itself, not in a base class.
-                self.assertEqual(told(method, vars(made)[method]).replace("(self, ", "("), each)
+                self.assertEqual(told(method, vars(made)[method]).replace("(self, ", "(").replace("(self)", "()"), each)
 
 
 if __name__ == "__main__":

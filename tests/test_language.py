@@ -187,19 +187,33 @@ class Code(unittest.TestCase):
             for node in nodes(tree, ast.Name):
                 if node.id in standard:
                     self.assertIn(node.id, BUILTINS, (name, node.lineno))
-                    self.assertTrue(node.id in called or node.id in ("int", "str", "list", "ValueError"),
+                    self.assertTrue(node.id in called or node.id in ("int", "str", "bool", "list", "ValueError"),
                                     (name, node.lineno))
 
     def test_methods(self):
         own = {node.name for tree in trees().values() for kind in nodes(tree, ast.ClassDef) for node in kind.body
                if isinstance(node, ast.FunctionDef)}
-        self.assertEqual(own & (set(dir(str)) | set(dir(list)) | set(dir(dict)) | set(dir(int))), {"__init__"})
+        # Those of the interface alone. The package does not call them.
+        shared = {"__init__", "add", "remove"}
+        self.assertEqual(own & (set(dir(str)) | set(dir(list)) | set(dir(dict)) | set(dir(int)) | set(dir(set))), shared)
         for name, tree in trees().items():
             for node in nodes(tree, ast.Call):
                 if isinstance(node.func, ast.Attribute):
                     self.assertIn(node.func.attr, METHODS | own, (name, node.lineno))
                     if node.func.attr == "join":
                         self.assertIsInstance(node.func.value, ast.Constant, (name, node.lineno))
+
+    def test_attributes(self):
+        barred = set("items keys values pop update append clear extend insert remove reverse setdefault sort args encode"
+                     " decode hex fromhex format".split())
+        for name, tree in trees().items():
+            for kind in nodes(tree, ast.ClassDef):
+                methods = {node.name for node in kind.body if isinstance(node, ast.FunctionDef)}
+                given = {node.attr for node in nodes(kind, ast.Attribute) if isinstance(node.ctx, ast.Store)}
+                self.assertEqual(given & (methods | barred), set(), (name, kind.name))
+            for node in nodes(tree, ast.Call):
+                if isinstance(node.func, ast.Attribute):
+                    self.assertNotIn(node.func.attr, ("add", "remove"), (name, node.lineno))
 
     def test_is_and_sets(self):
         for name, tree in trees().items():

@@ -9,6 +9,7 @@ import trees
 from lineworks.blame import blame
 from lineworks.carrying import candidates, condition_of, entry_candidates, pipeline_candidates
 from lineworks.cases import cases
+from lineworks.chances import chance, chances_given
 from lineworks.changes import changes
 from lineworks.cheapest import cheapest
 from lineworks.deciding import deciding_rows
@@ -16,10 +17,12 @@ from lineworks.diagrams import Diagrams
 from lineworks.errors import (
     Problem, SourceError, TooManyCases, TooManyChanges, TooManyQuestions, TooManyReasons, TooManyRows,
 )
+from lineworks.kept import edit_version, open_version
 from lineworks.kinds import compile_expression
 from lineworks.limits import Way
 from lineworks.names import compile_query
 from lineworks.origins import falling, origins, uses
+from lineworks.outcomes import none_of, outcomes
 from lineworks.parsing import parse_item, parse_query, parse_source
 from lineworks.pipelines import Pipeline, append_step, check_source, compile_source, define_step, drop_step
 from lineworks.possible import possible_rows
@@ -31,6 +34,7 @@ from lineworks.states import total_values
 from lineworks.tokens import tokens
 from lineworks.totals import total
 from lineworks.values import evaluate, row_key
+from lineworks.versions import are_equal, compare, separate, since
 
 
 def lists_in(value):
@@ -278,6 +282,45 @@ class Stage5(UnchangedCase):
         for _ in range(2):
             self.assertRaises(TooManyChanges, lambda: changes(store, made, [], [4, 6, 9], most=2))
             self.assertEqual(store.table(made), table)
+
+
+class Stage6(UnchangedCase):
+    """What lines return and do with their arguments stands in test_line."""
+
+    def test_chances_and_outcomes(self):
+        store = Diagrams()
+        a, b, c = [store.there(entry) for entry in (9, 4, 6)]
+        made = store.disjunction(store.conjunction(a, b), store.conjunction(store.negation(b), c))
+        cases_of, marks = {9: 3, 4: 500, 6: 250, 7: 0}, [((1, 1), a), ((1, 2), made), ((2, 1), b)]
+        self.unchanged(lambda *arguments: chance(store, made, *arguments), cases_of)
+        self.unchanged(lambda *arguments: chances_given(store, made, *arguments), cases_of, [4, 6, 7])
+        for read in (outcomes, none_of):
+            self.unchanged(lambda *arguments: read(store, *arguments), marks, (1,), [4, 9, 9], {4: 3, 9: 2, 6: 2})
+
+    def test_an_error_changes_no_condition(self):
+        store = Diagrams()
+        marks = [((number,), store.there(number)) for number in range(4)]
+        for _ in range(2):
+            self.assertRaises(TooManyQuestions, lambda: none_of(store, marks, (), [], {}, most_nodes=3))
+            self.assertEqual([store.table(condition) for _, condition in marks], [([(at, 0, 1)], 2) for at in range(4)])
+
+    def test_versions(self):
+        store = Diagrams()
+        old = open_version(store, Stage4.PLANS, [2, 1])
+        new = edit_version(store, old, ("add", 0, (1, "x")), [2, 1])
+        kept = [copy.deepcopy(vars(version)) for version in (old, new)]
+        for read, arguments in ((compare, [old, new]), (since, [[old, new], 0, (1, "x")]), (are_equal, [old, new]),
+                                (separate, [store, old, new, 0, (1, "x")])):
+            first = read(*arguments)
+            expected = copy.deepcopy(first)
+            empty(first)
+            self.assertEqual(read(*arguments), expected)
+        widths, edit = [2, 1], ("define", 1, [("table", 1), ("map", [("column", 0)], 0)])
+        for _ in range(2):
+            empty(vars(edit_version(store, new, edit, widths))["marks"])
+            empty(vars(edit_version(store, new, edit, widths))["plans"])
+        self.assertEqual([vars(version) for version in (old, new)], kept)
+        self.assertEqual((widths, edit), ([2, 1], ("define", 1, [("table", 1), ("map", [("column", 0)], 0)])))
 
 
 if __name__ == "__main__":
