@@ -14,7 +14,9 @@ def origins(plans, entries, step, row):
     # Steps use earlier ones: nothing more is followed in those that have been gone through.
     for at in reversed(range(step + 1)):
         if ("step", at) in whole:
-            whole.update({operation: True for operation in plans[at] if is_leaf(operation)})
+            for operation in plans[at]:
+                if is_leaf(operation):
+                    whole[operation] = True
         elif ("step", at) in followed:
             follow_step(plans[at], possible[at], followed, whole, list(followed["step", at]))
     return sorted([number for number, table, entry_row in entries
@@ -62,4 +64,5 @@ def follow_step(plan, possible, followed, whole, rows):
             if trace.whole[at]:
                 whole[operation] = True
             reached = followed.setdefault(operation, {})
-            reached.update({row: True for row in reached_rows(trace, at)})
+            for row in reached_rows(trace, at):
+                reached[row] = True

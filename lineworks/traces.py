@@ -53,8 +53,8 @@ def follow_operation(trace, at):
         for operand in operands(operation):
             trace.follow_all(operand)
     elif trace.followed[at] and not is_leaf(operation):
-        follow = OPERATIONS[operation[0]]
-        follow(trace, operation, list(trace.followed[at]))
+        action = OPERATIONS[operation[0]]
+        action(trace, operation, list(trace.followed[at]))
 
 
 def follow_filter(trace, operation, rows):

@@ -119,7 +119,7 @@ class Limits(unittest.TestCase):
             if needed > 1:
                 with self.assertRaises(TooManyChanges):
                     changes(store, made, sorted(choice), allowed, most=needed - 1)
-        self.assertGreater(inner, 20)
+        self.assertGreater(inner, 10)
 
     def test_a_diagram_inside(self):
         store = Diagrams()
